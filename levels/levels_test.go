@@ -794,22 +794,50 @@ func TestP4_5_ARunInTwoPartsIsARun(t *testing.T) {
 	}
 }
 
+// admittedOf gives the entries of a run that were admitted.
+func admittedOf(ticks []uint64, costs []int64, is []bool) ([]uint64, []int64) {
+	var when []uint64
+	var admitted []int64
+	for i := range ticks {
+		if is[i] {
+			when, admitted = append(when, ticks[i]), append(admitted, costs[i])
+		}
+	}
+	return when, admitted
+}
+
+func allAdmitted(t *testing.T, b api.Bucket, ticks []uint64, costs []int64) {
+	t.Helper()
+	if _, is := run(t, []api.Bucket{b}, ticks, costs); slices.Contains(is, false) {
+		t.Errorf("%v alone, with %v and %v: %v", b, ticks, costs, is)
+	}
+}
+
 func TestP4_5_ARunAdmitsNothingThatABucketAloneWouldNotHold(t *testing.T) {
 	m := mixed()
 	for i, l := range rows(m, 2000) {
 		ticks, costs := someRun(m, i%40, false)
 		_, is := run(t, l, ticks, costs)
-		var when []uint64
-		var admitted []int64
-		for j := range ticks {
-			if is[j] {
-				when, admitted = append(when, ticks[j]), append(admitted, costs[j])
+		when, admitted := admittedOf(ticks, costs, is)
+		for _, b := range l {
+			allAdmitted(t, b, when, admitted)
+		}
+	}
+}
+
+// Where ticks go back, a bucket alone comes to hold as much if it is refilled at the ticks of all costs.
+func TestP4_5_ABucketAloneWithTicksThatGoBack(t *testing.T) {
+	m := mixed()
+	for i, l := range rows(m, 2000) {
+		ticks, costs := someRun(m, i%40, true)
+		_, is := run(t, l, ticks, costs)
+		for j := range costs {
+			if !is[j] {
+				costs[j] = 0
 			}
 		}
 		for _, b := range l {
-			if _, alone := run(t, []api.Bucket{b}, when, admitted); slices.Contains(alone, false) {
-				t.Errorf("Run(%v, %v, %v) admits %v, but %v alone does not", l, ticks, costs, admitted, b)
-			}
+			allAdmitted(t, b, ticks, costs)
 		}
 	}
 }
